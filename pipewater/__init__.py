@@ -1,1 +1,1 @@
-"""Where water comes in a hall of pipes, and which valves keep it away."""
+"""Where water comes in a hall of pipes, which valves keep it away, and where it stays."""

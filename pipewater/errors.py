@@ -29,6 +29,20 @@ class NothingHelps(Refusal):
         Refusal.__init__(self, 3)
 
 
+class NoLevel(Refusal):
+    """The joint has a shut valve, or no way leads off from it."""
+
+    def __init__(self):
+        Refusal.__init__(self, 3)
+
+
+class NoSuchJoint(Refusal):
+    """The system has no joint of that number."""
+
+    def __init__(self):
+        Refusal.__init__(self, 4)
+
+
 class NoSuchPipe(Refusal):
     """The system has no pipe of that number."""
 

@@ -5,6 +5,7 @@ from pipewater.directions import gone, opposite, turn
 MOST_PIPES_AT_A_JOINT = 4
 ALLOWED_TURNS = (90, 135, 180)
 STRAIGHT = 180
+OUTLETS = ("drain", "open")
 
 
 class Joint:
@@ -17,12 +18,16 @@ class Joint:
         self.pipes = []
         self.leaving = []
 
+    def height(self):
+        return self.place[2]
+
 
 class Pipe:
-    def __init__(self, begin, finish, direction, radius):
+    def __init__(self, begin, finish, direction, millimetres, radius):
         self.begin = begin
         self.finish = finish
         self.direction = direction
+        self.millimetres = millimetres
         self.radius = radius
 
 
@@ -38,7 +43,7 @@ class System:
     def add_pipe(self, begin, direction, millimetres, radius):
         """A pipe to a new joint, whose number is given back."""
         finish = self.add_joint(gone(self.joints[begin].place, direction, millimetres))
-        self.pipes.append(Pipe(begin, finish, direction, radius))
+        self.pipes.append(Pipe(begin, finish, direction, millimetres, radius))
         self.lay(begin, len(self.pipes) - 1, direction)
         self.lay(finish, len(self.pipes) - 1, opposite(direction))
         return finish
@@ -76,6 +81,14 @@ class System:
 
     def sources(self):
         return [number for number, joint in enumerate(self.joints) if joint.ending == "source"]
+
+    def outlets(self):
+        return [number for number, joint in enumerate(self.joints) if joint.ending in OUTLETS]
+
+    def neighbours(self, number):
+        """The joints that one pipe leads to from the joint."""
+        there = [self.pipes[pipe] for pipe in self.joints[number].pipes]
+        return [pipe.finish if pipe.begin == number else pipe.begin for pipe in there]
 
     def has_valve(self, number):
         return number < len(self.joints) and self.joints[number].valve

@@ -1,10 +1,12 @@
 """The calls on one object, and how they and their answers are laid in lists of whole numbers."""
 
 from pipewater.cuts import fewest_valves
-from pipewater.errors import Fault, NoSuchPipe, NotACall, NotValves, Refusal, TooMany
+from pipewater.errors import Fault, NoLevel, NoSuchJoint, NoSuchPipe, NotACall, NotValves, Refusal, TooMany
+from pipewater.levels import Heights, joint_levels
 from pipewater.reader import read_text
 from pipewater.system import System
 from pipewater.ways import come_to
+from pipewater.wetness import length_left, wet_length
 
 MOST_BYTES = 65536
 
@@ -12,6 +14,9 @@ READ = 1
 REACH = 2
 OFF = 3
 ISOLATE = 4
+LEVEL = 5
+WET = 6
+LEFT = 7
 
 ANSWERED = 0
 FAULTY = -100
@@ -21,13 +26,18 @@ class Water:
     """Holds a system, at first the empty text's. Each call gives back a list of whole numbers, or is refused."""
 
     def __init__(self):
-        self.system = System()
+        self.hold(System())
+
+    def hold(self, system):
+        self.system = system
+        # Heights are compared once for each system, so that a call needs only their ranks.
+        self.heights = Heights(system)
 
     def read(self, numbers):
         if len(numbers) > MOST_BYTES:
             raise TooMany()
-        self.system = read_text(numbers)
-        system = self.system
+        system = read_text(numbers)
+        self.hold(system)
         return [len(system.joints), len(system.pipes), len(system.valves()), len(system.ends())]
 
     def reach(self, shut):
@@ -40,9 +50,32 @@ class Water:
         return [pipe for pipe in come_to(self.system, []) if pipe not in still]
 
     def isolate(self, pipe):
+        self.need_pipe(pipe)
+        return fewest_valves(self.system, pipe)
+
+    def level(self, joint, shut):
+        self.need_valves(shut)
+        if joint >= len(self.system.joints):
+            raise NoSuchJoint()
+        found = joint_levels(self.system, self.heights, shut)[joint]
+        if found is None:
+            raise NoLevel()
+        return list(found)
+
+    def wet(self, pipe, shut):
+        self.need_valves(shut)
+        self.need_pipe(pipe)
+        levels = joint_levels(self.system, self.heights, shut)
+        return list(wet_length(self.system, self.system.pipes[pipe], levels))
+
+    def left(self, shut):
+        self.need_valves(shut)
+        levels = joint_levels(self.system, self.heights, shut)
+        return list(length_left(self.system, levels))
+
+    def need_pipe(self, pipe):
         if pipe >= len(self.system.pipes):
             raise NoSuchPipe()
-        return fewest_valves(self.system, pipe)
 
     def need_valves(self, shut):
         rising = all([shut[k] < shut[k + 1] for k in range(len(shut) - 1)])
@@ -80,6 +113,12 @@ def make_call(water, calls):
         return water.off(calls.take_number())
     if number == ISOLATE:
         return water.isolate(calls.take_number())
+    if number == LEVEL:
+        return water.level(calls.take_number(), calls.take_row())
+    if number == WET:
+        return water.wet(calls.take_number(), calls.take_row())
+    if number == LEFT:
+        return water.left(calls.take_row())
     raise NotACall(f"no call has the number {number}")
 
 

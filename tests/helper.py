@@ -20,6 +20,18 @@ def isolate(pipe):
     return [4, pipe]
 
 
+def level(joint, *shut):
+    return [5, joint, len(shut)] + list(shut)
+
+
+def wet(pipe, *shut):
+    return [6, pipe, len(shut)] + list(shut)
+
+
+def left(*shut):
+    return [7, len(shut)] + list(shut)
+
+
 def answered(*calls):
     """The answers to the calls, a list each, without their counts."""
     numbers = answers([number for call in calls for number in call])

@@ -5,8 +5,9 @@ import math
 import random
 import re
 import unittest
+from fractions import Fraction
 
-from helper import answered, isolate, joint_of, network, off, pipe_of, reach, read
+from helper import answered, isolate, joint_of, left, level, network, off, pipe_of, reach, read, wet
 
 STEPS = {"e": (1, 0, 0), "w": (-1, 0, 0), "n": (0, 1, 0), "s": (0, -1, 0), "u": (0, 0, 1), "d": (0, 0, -1),
          "ne": (1, 1, 0), "se": (1, -1, 0), "nw": (-1, 1, 0), "sw": (-1, -1, 0), "eu": (1, 0, 1), "ed": (1, 0, -1),
@@ -16,6 +17,15 @@ INT = "(?:0|-?[1-9][0-9]{0,5})"
 NAME = "[a-z0-9]{1,16}"
 FORM = re.compile(f"size {NUM}|from {NAME} {INT} {INT} {INT}|at {NAME}|go (?:{'|'.join(STEPS)}) {NUM}|node {NAME}"
                   f"|valve {NAME}|to {NAME}|end (?:open|cap|drain|source)")
+
+
+# The root of 2 times 10 ** 60: near enough to tell apart any two lengths that a text can make.
+ROOT = math.isqrt(2 * 10 ** 120)
+
+
+def size(length):
+    """Of two lengths the greater has the greater size."""
+    return length[0] * 10 ** 60 + length[1] * ROOT
 
 
 def angle(one, two):
@@ -33,7 +43,7 @@ class SlowSystem:
 
     def leaving(self, joint):
         there = []
-        for begin, finish, steps, radius in self.pipes:
+        for begin, finish, steps, radius, number in self.pipes:
             if begin == joint:
                 there.append((steps, radius))
             if finish == joint:
@@ -42,7 +52,7 @@ class SlowSystem:
 
     def wrong_at(self, joint, steps, radius):
         there = self.leaving(joint)
-        angles = [angle(steps, other) for other, size in there]
+        angles = [angle(steps, other) for other, thick in there]
         wrong = len(there) + 1 > 4 or any(degrees not in (90, 135, 180) for degrees in angles)
         if joint in self.valves:
             wrong = wrong or len(there) + 1 != 2 or angles != [180]
@@ -109,8 +119,8 @@ class SlowSystem:
         if verb == "go":
             self.go(STEPS[words[1]], int(words[2]))
         if verb == "to":
-            begin, finish, steps, radius = self.pipes.pop()
-            self.pipes.append((begin, self.named[words[1]], steps, radius))
+            begin, finish, steps, radius, number = self.pipes.pop()
+            self.pipes.append((begin, self.named[words[1]], steps, radius, number))
             self.places.pop()
         if verb == "end":
             self.ends[self.stand] = words[1]
@@ -122,7 +132,7 @@ class SlowSystem:
         slant = sum(abs(step) for step in steps) == 2
         for axis, step in enumerate(steps):
             place[axis + 3 * slant] += step * number * (1000 if slant else 2000)
-        self.pipes.append((self.stand, len(self.places), steps, self.radius))
+        self.pipes.append((self.stand, len(self.places), steps, self.radius, number))
         self.stand = len(self.places)
         self.places.append(place)
         self.pipes_of_route += 1
@@ -147,6 +157,62 @@ class SlowSystem:
                     return [0, *row]
         return [-3]
 
+    def height(self, joint):
+        return (self.places[joint][2], self.places[joint][5])
+
+    def is_outlet(self, joint):
+        return self.ends.get(joint) in ("drain", "open")
+
+    def neighbours(self, joint):
+        return [pipe[1 - side] for pipe in self.pipes for side in (0, 1) if pipe[side] == joint]
+
+    def ways_off(self, joint, shut):
+        """All ways to outlets that come to no joint twice and to none that is shut: the joints of each."""
+        ways, begun = [], [[joint]]
+        near = [self.neighbours(other) for other in range(len(self.places))]
+        while begun:
+            way = begun.pop()
+            if way[-1] in shut:
+                continue
+            if self.is_outlet(way[-1]):
+                ways.append(way)
+            begun += [way + [other] for other in near[way[-1]] if other not in way]
+        return ways
+
+    def level(self, joint, shut):
+        greatest = [max([self.height(other) for other in way], key=size) for way in self.ways_off(joint, shut)]
+        return min(greatest, key=size, default=None)
+
+    def wet(self, pipe, levels):
+        begin, finish, steps, radius, number = self.pipes[pipe]
+        known = [levels[joint] for joint in (begin, finish) if levels[joint] is not None]
+        if not known:
+            return (2000 * number, 0)
+        top = min(known, key=size)
+        low, high = sorted([self.height(begin), self.height(finish)], key=size)
+        if steps[2] == 0:
+            return (2000 * number, 0) if size(low) < size(top) else (0, 0)
+        top = sorted([low, top, high], key=size)[1]
+        p, q = top[0] - low[0], top[1] - low[1]
+        return (p, q) if steps[:2] == (0, 0) else (2 * q, p)
+
+    def left(self, levels):
+        p = q = 0
+        for k, pipe in enumerate(self.pipes):
+            p += self.wet(k, levels)[0] * pipe[3] ** 2
+            q += self.wet(k, levels)[1] * pipe[3] ** 2
+        return (p, q)
+
+    def runs_off(self, pipe, height, shut):
+        """Whether a way off that never goes above that height leads from the place of the pipe at that height."""
+        came, found = set(), list(self.pipes[pipe][:2])
+        while found:
+            joint = found.pop()
+            if joint not in came and joint not in shut and size(self.height(joint)) <= size(height):
+                came.add(joint)
+                found += self.neighbours(joint)
+        return any(self.is_outlet(joint) for joint in came)
+
 
 def slow_read(text):
     """The answer to read, and the system that is read."""
@@ -164,7 +230,7 @@ def slow_read(text):
     return [0, len(system.places), len(system.pipes), len(system.valves), len(system.ends)], system
 
 
-def drawn_line(draw, system):
+def drawn_line(draw, system, common):
     names = ["a", "b", "c", "d", "e", "f", "g", "h", "i", "j", "k", "l", "m", "n"]
     under_way = system.stand is not None
     verbs = ["go"] * 8 + ["node"] * 3 + ["valve", "to", "end"] if under_way else ["from", "at", "at", "at"]
@@ -177,7 +243,7 @@ def drawn_line(draw, system):
         x, y, z = draw.randrange(-1, 2), draw.randrange(-1, 2), draw.choice([0, 0, 0, 100001])
         return f"from {draw.choice(names)} {x} {y} {z}"
     if verb == "go":
-        return f"go {draw.choice(list(STEPS) + list('ewns') * 20)} {draw.choice([1, 1, 1, 1, 1, 1, 2, 0])}"
+        return f"go {draw.choice(list(STEPS) + common * 20)} {draw.choice([1, 1, 1, 1, 1, 1, 2, 0])}"
     if verb == "end":
         return f"end {draw.choice(['open', 'cap', 'drain', 'source', 'source', 'x'])}"
     return f"{verb} {draw.choice(names)}"
@@ -203,14 +269,14 @@ def closing_lines(draw, system):
     return rows
 
 
-def drawn_text(draw):
-    """Lines without a fault; of every second text the last one or two may have one."""
+def drawn_text(draw, common=("e", "w", "n", "s"), wrongs=0.5):
+    """Lines without a fault; of the wrong part of all texts the last one or two may have one."""
     system, rows = SlowSystem(), []
-    wrong = draw.random() < 0.5
+    wrong = draw.random() < wrongs
     for number in range(draw.randrange(2, 60)):
-        row = draw.choice(homes(system) or [drawn_line(draw, system)])
+        row = draw.choice(homes(system) or [drawn_line(draw, system, list(common))])
         while system.kinds(row) and not (wrong and number > 5 and draw.random() < 0.01):
-            row = drawn_line(draw, system)
+            row = drawn_line(draw, system, list(common))
         rows.append(row)
         if system.kinds(row):
             return "".join(row + "\n" for row in rows)
@@ -285,6 +351,156 @@ class DrawnNetworks(unittest.TestCase):
                                                       reach(*sorted({*row, *less})))[1:]
             self.assertNotIn(pipe, with_row[1:])
             self.assertLessEqual(set(with_both[1:]), set(with_row[1:]) & set(with_less[1:]))
+
+
+class Lattice:
+    """Draws the text of a lattice of pipes, four ways at each joint at most, with valves, and with ends beside it."""
+
+    def __init__(self, draw):
+        self.draw, self.system, self.rows, self.valves = draw, SlowSystem(), [], 0
+        self.wide, self.high = draw.choice([(2, 2), (3, 2), (2, 3), (3, 3), (4, 2)])
+        self.across, self.along = draw.choice([("e", "u"), ("e", "d"), ("eu", "ed"), ("eu", "wu"), ("n", "u"),
+                                               ("nd", "nu"), ("e", "nu"), ("u", "ne"), ("w", "sd")])
+        self.columns = [draw.randrange(1, 4) for k in range(self.wide)]
+        self.lanes = [draw.randrange(1, 4) for k in range(self.high)]
+
+    def add(self, *rows):
+        for row in rows:
+            if self.system.kinds(row):
+                raise AssertionError((row, self.rows))
+            self.system.take(row)
+            self.rows.append(row)
+
+    def lead(self, word, number, last):
+        """A pipe, or two with a valve between them, and the line behind them."""
+        before = self.draw.randrange(number + 1)
+        if 0 < before < number:
+            self.add(f"go {word} {before}")
+            if self.draw.random() < 0.8:
+                self.add(f"valve v{self.valves}")
+                self.valves += 1
+            number -= before
+        self.add(f"go {word} {number}", last)
+
+    def text(self):
+        self.add(f"size {self.draw.randrange(1, 9)}", f"from k0x0 0 0 {self.draw.randrange(-3, 4)}")
+        for j in range(self.high):
+            if j > 0:
+                self.add(f"at k0x{j - 1}")
+                self.lead(self.along, self.lanes[j], f"node k0x{j}")
+            for i in range(1, self.wide):
+                self.lead(self.across, self.columns[i], f"node k{i}x{j}")
+            self.add(f"go {self.across} 1", f"end {self.draw.choice(['cap', 'cap', 'open', 'drain', 'source'])}")
+        for j in range(1, self.high):
+            for i in range(1, self.wide):
+                if self.draw.random() < 0.8:
+                    self.add(f"at k{i}x{j - 1}")
+                    self.lead(self.along, self.lanes[j], f"to k{i}x{j}")
+        for k in range(self.draw.randrange(4)):
+            self.branch()
+        return "".join(row + "\n" for row in self.rows)
+
+    def branch(self):
+        self.add(f"size {self.draw.randrange(1, 9)}",
+                 f"at k{self.draw.randrange(self.wide)}x{self.draw.randrange(self.high)}")
+        for k in range(self.draw.randrange(1, 4)):
+            choices = [f"go {word} {self.draw.randrange(1, 4)}" for word in STEPS]
+            choices = [row for row in choices if not self.system.kinds(row)]
+            if choices:
+                self.add(self.draw.choice(choices))
+        if self.system.kinds("end cap"):
+            # No pipe may leave here: as if the route had not begun.
+            self.rows.pop()
+            self.system.stand = None
+        else:
+            self.add(f"end {self.draw.choice(['cap', 'open', 'drain', 'source'])}")
+
+
+def drawn_systems(seed, texts, lattices):
+    """Texts that have no fault, and their systems."""
+    draw, drawn = random.Random(seed), []
+    while len(drawn) < texts:
+        common = draw.choice([("e", "w", "u", "d"), ("eu", "ed", "wu", "wd"), tuple(STEPS)])
+        drawn.append(drawn_text(draw, common, 0))
+    drawn += [Lattice(draw).text() for k in range(lattices)]
+    systems = []
+    for text in drawn:
+        told, system = slow_read(text)
+        if told[0] == 0:
+            systems.append((text, system))
+    return systems
+
+
+class DrawnLevels(unittest.TestCase):
+    def test_level_wet_left(self):
+        draw = random.Random(4)
+        seen = {}
+        for text, system in drawn_systems(5, 600, 400):
+            shut = sorted(joint for joint in system.valves if draw.random() < 0.4)
+            levels = [system.level(joint, shut) for joint in range(len(system.places))]
+            calls = [level(joint, *shut) for joint in range(len(levels))]
+            calls += [wet(pipe, *shut) for pipe in range(len(system.pipes))]
+            want = [[-3] if height is None else [0, *height] for height in levels]
+            want += [[0, *system.wet(pipe, levels)] for pipe in range(len(system.pipes))]
+            got = answered(read(text), *calls, left(*shut))[1:]
+            self.assertEqual(got, want + [[0, *system.left(levels)]], (text, shut))
+            self.note(system, levels, seen)
+        kinds = [(slope, part) for slope in ("level", "upright", "aslant") for part in ("none", "all", "dry")]
+        self.assertEqual(sorted(seen), sorted(kinds + [("upright", "part"), ("aslant", "part")]))
+        self.assertGreater(min(seen.values()), 20, seen)
+
+    def note(self, system, levels, seen):
+        """How often there were pipes of each slope, and of how much of each was wet."""
+        for k, (begin, finish, steps, radius, number) in enumerate(system.pipes):
+            slope = "level" if steps[2] == 0 else "upright" if steps[:2] == (0, 0) else "aslant"
+            length = system.wet(k, levels)
+            part = {(0, 0): "dry", (2000 * number, 0): "all"}.get(length, "part")
+            if levels[begin] is None and levels[finish] is None:
+                part = "none"
+            seen[slope, part] = seen.get((slope, part), 0) + 1
+
+
+class DrawnPromises(unittest.TestCase):
+    def test_a_place_is_wet_just_if_no_way_off_stays_below_it(self):
+        draw = random.Random(6)
+        for text, system in drawn_systems(7, 300, 300):
+            shut = sorted(joint for joint in system.valves if draw.random() < 0.4)
+            got = answered(read(text), *[wet(pipe, *shut) for pipe in range(len(system.pipes))])[1:]
+            for pipe, (zero, p, q) in enumerate(got):
+                self.compare_places(system, pipe, (p, q), shut, text)
+
+    def compare_places(self, system, pipe, length, shut, text):
+        begin, finish, steps, radius, number = system.pipes[pipe]
+        low, high = sorted([system.height(begin), system.height(finish)], key=size)
+        if steps[2] == 0:
+            self.assertEqual(length, (0, 0) if system.runs_off(pipe, low, shut) else (2000 * number, 0), (text, shut))
+            return
+        p, q = length
+        rise = (p, q) if steps[:2] == (0, 0) else (q, Fraction(p, 2))
+        surface = (low[0] + rise[0], low[1] + rise[1])
+        self.assertLessEqual(size(low), size(surface), (text, shut))
+        self.assertLessEqual(size(surface), size(high), (text, shut))
+        thin = Fraction(1, 10 ** 30)
+        places = [(surface[0] + step, surface[1]) for step in (-thin, 0, thin)]
+        places += [(low[0] + (high[0] - low[0]) * Fraction(k, 7), low[1] + (high[1] - low[1]) * Fraction(k, 7))
+                   for k in range(8)]
+        for place in places:
+            # At the upper end itself no length tells whether it is wet.
+            if size(low) <= size(place) < size(high):
+                is_wet = size(place) < size(surface)
+                self.assertEqual(is_wet, not system.runs_off(pipe, place, shut), (text, shut, pipe, place))
+
+    def test_more_shut_no_pipe_more_is_come_to_and_none_is_less_wet(self):
+        draw = random.Random(8)
+        for text, system in drawn_systems(9, 200, 400):
+            less = sorted(joint for joint in system.valves if draw.random() < 0.3)
+            more = sorted(joint for joint in system.valves if joint in less or draw.random() < 0.5)
+            rows = [[reach(*shut), left(*shut)] + [wet(pipe, *shut) for pipe in range(len(system.pipes))]
+                    for shut in (less, more)]
+            with_less, with_more = [answered(read(text), *calls)[1:] for calls in rows]
+            self.assertLessEqual(set(with_more[0][1:]), set(with_less[0][1:]))
+            for one, other in zip(with_less[1:], with_more[1:]):
+                self.assertLessEqual(size(one[1:]), size(other[1:]), (text, less, more))
 
 
 if __name__ == "__main__":
